@@ -206,6 +206,11 @@ func ascendsBelow(list []int, size int) bool {
 	return true
 }
 
+// allBelow reports whether all numbers of a list are from 0 to size - 1.
+func allBelow(list []int, size int) bool {
+	return !slices.ContainsFunc(list, func(k int) bool { return k < 0 || k >= size })
+}
+
 // rowOf returns the set of one element.
 func rowOf(k int) row {
 	var r row
