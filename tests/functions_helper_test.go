@@ -114,23 +114,29 @@ func identity(n int) []int {
 	return list
 }
 
+// noLists returns what is no list of n numbers from 0 to size - 1, by what is wrong with it.
+func noLists(n int, size int) map[string][]int {
+	return map[string][]int{
+		"nil":                nil,
+		"empty":              {},
+		"too short":          repeated(0, n-1),
+		"too long":           repeated(0, n+1),
+		"far too long":       repeated(0, 300),
+		"negative":           repeated(-1, n),
+		"very negative":      repeated(math.MinInt, n),
+		"one too great":      repeated(size, n),
+		"far too great":      repeated(math.MaxInt, n),
+		"negative in last":   append(repeated(0, n-1), -1),
+		"too great in last":  append(repeated(0, n-1), size),
+		"too great in front": append([]int{size}, repeated(0, n-1)...),
+		"past all words":     append([]int{256}, repeated(0, n-1)...),
+	}
+}
+
 // noFunctions returns lists that are no monotone function of one domain to another one, by what is wrong with them.
 func noFunctions(d impl.Order, e impl.Order) map[string][]int {
 	n, m := len(d.Up), len(e.Up)
-	wrong := map[string][]int{
-		"nil":               nil,
-		"empty":             {},
-		"too short":         repeated(0, n-1),
-		"too long":          repeated(0, n+1),
-		"far too long":      repeated(0, 300),
-		"negative":          repeated(-1, n),
-		"very negative":     repeated(math.MinInt, n),
-		"one too great":     repeated(m, n),
-		"far too great":     repeated(math.MaxInt, n),
-		"negative in last":  append(repeated(0, n-1), -1),
-		"too great in last": append(repeated(0, n-1), m),
-		"past all words":    append([]int{256}, repeated(0, n-1)...),
-	}
+	wrong := noLists(n, m)
 	least, from := impl.OrderLeast(e), impl.OrderLeast(d)
 	for k := range m {
 		if n > 1 && k != least && (k < 3 || k == m-1) {

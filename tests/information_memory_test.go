@@ -117,15 +117,6 @@ func TestInformationResultsAreNew(t *testing.T) {
 // No state is kept: a call tells the same after the results of others were changed.
 func TestInformationCallsKeepNothing(t *testing.T) {
 	for _, u := range informationUses(t) {
-		first := u.results()
-		want := cloneLists(first)
-		for _, list := range first {
-			for i := range list {
-				list[i] = -7
-			}
-		}
-		if again := u.results(); !sameLists(again, want) {
-			t.Errorf("results became %v, want %v", again, want)
-		}
+		wantNothingKept(t, "information systems", u.results)
 	}
 }

@@ -403,3 +403,18 @@ func wantSeparate(t *testing.T, what string, lists ...[]int) {
 		t.Errorf("%s: lists were not restored", what)
 	}
 }
+
+// wantNothingKept fails if a call tells something else after its results, lists in new memory, were changed.
+func wantNothingKept(t *testing.T, what string, results func() [][]int) {
+	t.Helper()
+	first := results()
+	want := cloneLists(first)
+	for _, list := range first {
+		for i := range list {
+			list[i] = -7
+		}
+	}
+	if again := results(); !sameLists(again, want) {
+		t.Errorf("%s: results became %v, want %v", what, again, want)
+	}
+}
