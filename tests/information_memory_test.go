@@ -90,8 +90,7 @@ func TestInformationArgumentsStay(t *testing.T) {
 // P39 to P48: no result shares memory with an argument or with another one.
 func TestInformationResultsAreSeparate(t *testing.T) {
 	for _, u := range informationUses(t) {
-		u = u.cloned()
-		wantSeparate(t, "results", slices.Concat(u.lists(), u.results())...)
+		wantResultsSeparate(t, "results", u)
 	}
 }
 

@@ -65,20 +65,14 @@ func TestOpenArgumentsStay(t *testing.T) {
 		uses = append(uses, openUse{s.name, chain(3), s.order, []int{1, 1, 9}, []int{1, 1, 0, 0}, []int{9, 0, 1}})
 	}
 	for _, u := range uses {
-		u = u.cloned()
-		before := cloneLists(u.lists())
-		u.results()
-		if !sameLists(before, u.lists()) {
-			t.Errorf("%s: %v became %v", u.name, before, u.lists())
-		}
+		wantArgumentsStay(t, u.name, u)
 	}
 }
 
 // P58, P60, P61, P66: no result shares memory with an argument or with another one.
 func TestOpenResultsAreSeparate(t *testing.T) {
 	for _, u := range openUses(t) {
-		u = u.cloned()
-		wantSeparate(t, u.name, slices.Concat(u.lists(), u.results())...)
+		wantResultsSeparate(t, u.name, u)
 	}
 }
 

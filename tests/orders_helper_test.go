@@ -18,6 +18,13 @@ type sample struct {
 // above is an order as the document tells it: above[i][k] is whether k is above i.
 type above [][]bool
 
+// use is what the functions of a chapter are called with: the same in new memory, its lists, and the lists of all results.
+type use[U any] interface {
+	cloned() U
+	lists() [][]int
+	results() [][]int
+}
+
 // must returns an order made of lists of elements above.
 func must(t *testing.T, lists [][]int) impl.Order {
 	t.Helper()
@@ -402,6 +409,24 @@ func wantSeparate(t *testing.T, what string, lists ...[]int) {
 	if !reflect.DeepEqual(before, cloneLists(lists)) {
 		t.Errorf("%s: lists were not restored", what)
 	}
+}
+
+// wantArgumentsStay fails if the functions of a chapter change what they are called with.
+func wantArgumentsStay[U use[U]](t *testing.T, what string, u U) {
+	t.Helper()
+	u = u.cloned()
+	before := cloneLists(u.lists())
+	u.results()
+	if !sameLists(before, u.lists()) {
+		t.Errorf("%s: %v became %v", what, before, u.lists())
+	}
+}
+
+// wantResultsSeparate fails if what the functions of a chapter return shares memory with what they are called with, or with each other.
+func wantResultsSeparate[U use[U]](t *testing.T, what string, u U) {
+	t.Helper()
+	u = u.cloned()
+	wantSeparate(t, what, slices.Concat(u.lists(), u.results())...)
 }
 
 // wantNothingKept fails if a call tells something else after its results, lists in new memory, were changed.

@@ -67,20 +67,14 @@ func TestPowerArgumentsStay(t *testing.T) {
 		uses = append(uses, powerUse{chain(2), chain(3), kind, []int{0, 2}, []int{1, 0}})
 	}
 	for _, u := range uses {
-		u = u.cloned()
-		before := cloneLists(u.lists())
-		u.results()
-		if !sameLists(before, u.lists()) {
-			t.Errorf("%s: %v became %v", u.kind, before, u.lists())
-		}
+		wantArgumentsStay(t, u.kind, u)
 	}
 }
 
 // P49 to P55: no result shares memory with an argument or with another one.
 func TestPowerResultsAreSeparate(t *testing.T) {
 	for _, u := range powerUses(t) {
-		u = u.cloned()
-		wantSeparate(t, u.kind, slices.Concat(u.lists(), u.results())...)
+		wantResultsSeparate(t, u.kind, u)
 	}
 }
 
