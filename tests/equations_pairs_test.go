@@ -109,9 +109,9 @@ func TestPairsAreProjections(t *testing.T) {
 func TestPairAfter(t *testing.T) {
 	all := smallPassages()
 	count := 0
-	for i, p := range all {
-		for k, q := range all {
-			if (i+k)%3 != 0 || !sameLists(p.e().Up, q.d().Up) {
+	for _, p := range all {
+		for _, q := range all {
+			if !sameLists(p.e().Up, q.d().Up) {
 				continue
 			}
 			count++
